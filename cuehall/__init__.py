@@ -1,0 +1,1 @@
+"""Cuehall: the lights of a play, told by what changes."""
