@@ -4,6 +4,7 @@ import unittest
 
 from cuehall import names
 from cuehall.names import is_cue, is_fade, is_lamp, is_level, is_moment
+from plain import OTHERS
 
 # Each function that asks for a number, with the lowest and the highest one.
 NUMBERS = (
@@ -11,12 +12,6 @@ NUMBERS = (
     (is_level, 0, 100),
     (is_fade, 0, 6000),
     (is_moment, 0, 10 ** 9),
-)
-
-# Things that are neither numbers nor texts.
-OTHERS = (
-    True, False, None, [], [1], ["a"], [50, 60], (), (1,), ("a",), {}, {1: 2}, {"a": 1},
-    {1}, {"a"}, b"", b"a", object(), int, str, len,
 )
 
 SMALL = "abcdefghijklmnopqrstuvwxyz"
